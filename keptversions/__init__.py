@@ -1,0 +1,1 @@
+"""Collections with kept versions: maps, sets, queues and rows whose old versions can still be asked."""
