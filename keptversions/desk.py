@@ -1,21 +1,30 @@
 """The desk: reads a list of calls, has each done on a new shelf, and tells the answers."""
 
+from keptversions.comparing import are_same, difference_numbers
+from keptversions.forms import entry_numbers, form_numbers, is_form, read_entries
 from keptversions.joining import IN_JUST_ONE, keep_joined
 from keptversions.refusals import NoAbsent, NoFull, NoKind, NoRange
 from keptversions.shelf import MAP, SET, QUEUE, ROW, LAST_ORDER, Shelf, Version
-from keptversions.shelf import find_of_kind, find_version, first_behind, first_not_before
-from keptversions.shelf import keep_part, keep_spliced, keep_version, key_entry, pair_entry
-from keptversions.value import LIST, checked_value, place_of
+from keptversions.shelf import find_of_kind, find_version, first_behind, first_not_before, forget_version
+from keptversions.shelf import is_kind_with_order, keep_part, keep_spliced, keep_version, room_of
+from keptversions.shelf import key_entry, pair_entry, row_entry
+from keptversions.sorting import keep_sorted
+from keptversions.value import checked_value, parts_of, place_of, read_value
 
 LAST_NUMBER = 4294967295
 
 TOLD = 0
 NOTHING = 1
+FAULT = 2
 
 NO_RANGE = -1
 NO_ABSENT = -2
 NO_KIND = -3
 NO_FULL = -4
+
+X_BEFORE = 0
+BOTH_SAME = 1
+Y_BEFORE = 2
 
 
 # Gives where the entry with that place begins and ends: at once, if there is no such entry.
@@ -31,16 +40,23 @@ def keep_with_key(shelf, version, entry):
     return [TOLD, keep_spliced(shelf, version, span[0], span[1], [entry])]
 
 
-def entry_numbers(version, entry):
-    if version.kind in (MAP, QUEUE):
-        return [LIST, 2] + list(entry.key) + list(entry.value)
-    return list(entry.key) + list(entry.value)
+def check_order(order):
+    if order > LAST_ORDER:
+        raise NoRange()
+
+
+# Gives where the entries end that are asked for by the first one's number and how many they are.
+def end_within(version, start, many):
+    stop = start + many
+    if stop > len(version.entries):
+        raise NoAbsent()
+    return stop
 
 
 def call_new(shelf, wholes, rows):
     kind = wholes[0]
     order = wholes[1]
-    if kind > ROW or order > LAST_ORDER or (kind == ROW and order > 0):
+    if not is_kind_with_order(kind, order):
         raise NoRange()
     return [TOLD, keep_version(shelf, Version(kind, order, [], 1))]
 
@@ -98,11 +114,8 @@ def call_at(shelf, wholes, rows):
 
 def call_range(shelf, wholes, rows):
     version = find_version(shelf, wholes[0])
-    start = wholes[1]
-    stop = start + wholes[2]
-    if stop > len(version.entries):
-        raise NoAbsent()
-    return [TOLD, keep_part(shelf, version, start, stop)]
+    stop = end_within(version, wholes[1], wholes[2])
+    return [TOLD, keep_part(shelf, version, wholes[1], stop)]
 
 
 def call_join(shelf, wholes, rows):
@@ -125,9 +138,89 @@ def call_add(shelf, wholes, rows):
 
 def call_take(shelf, wholes, rows):
     version = find_of_kind(shelf, wholes[0], (QUEUE,))
-    if wholes[1] > len(version.entries):
-        raise NoAbsent()
-    return [TOLD, keep_spliced(shelf, version, 0, wholes[1], [])]
+    stop = end_within(version, 0, wholes[1])
+    return [TOLD, keep_spliced(shelf, version, 0, stop, [])]
+
+
+# Keeps a row with the fresh entries in the place of many of its own.
+def keep_changed_row(shelf, wholes, many, fresh):
+    version = find_of_kind(shelf, wholes[0], (ROW,))
+    start = wholes[1]
+    stop = end_within(version, start, many)
+    return [TOLD, keep_spliced(shelf, version, start, stop, fresh)]
+
+
+def call_insert(shelf, wholes, rows):
+    return keep_changed_row(shelf, wholes, 0, [row_entry(checked_value(rows[0]))])
+
+
+def call_change(shelf, wholes, rows):
+    return keep_changed_row(shelf, wholes, 1, [row_entry(checked_value(rows[0]))])
+
+
+def call_remove(shelf, wholes, rows):
+    return keep_changed_row(shelf, wholes, wholes[2], [])
+
+
+def call_sorted(shelf, wholes, rows):
+    check_order(wholes[1])
+    version = find_of_kind(shelf, wholes[0], (ROW,))
+    return [TOLD, keep_sorted(shelf, version, wholes[1])]
+
+
+def call_forget(shelf, wholes, rows):
+    forget_version(shelf, wholes[0])
+    return [TOLD]
+
+
+def call_room(shelf, wholes, rows):
+    return [TOLD, 3, shelf.used, len(shelf.versions), shelf.following]
+
+
+def call_kind(shelf, wholes, rows):
+    version = find_version(shelf, wholes[0])
+    return [TOLD, 2, version.kind, version.order]
+
+
+def call_form(shelf, wholes, rows):
+    return [TOLD] + form_numbers(find_version(shelf, wholes[0]))
+
+
+def call_of(shelf, wholes, rows):
+    form = read_value(rows[0]).numbers
+    if not is_form(form):
+        return [NOTHING]
+    parts = parts_of(form)
+    kind = parts[0][1]
+    order = parts[1][1]
+    entry_rows = parts_of(parts[2])
+    entries = read_entries(kind, order, entry_rows)
+    if len(entries) < len(entry_rows):
+        return [FAULT, len(entries)]
+    return [TOLD, keep_version(shelf, Version(kind, order, entries, 1 + room_of(entries)))]
+
+
+def call_same(shelf, wholes, rows):
+    first = find_version(shelf, wholes[0])
+    second = find_version(shelf, wholes[1])
+    return [TOLD, 1 if are_same(first, second) else 0]
+
+
+def call_before(shelf, wholes, rows):
+    check_order(wholes[0])
+    x = place_of(checked_value(rows[0]).numbers, wholes[0])
+    y = place_of(checked_value(rows[1]).numbers, wholes[0])
+    if x == y:
+        return [TOLD, BOTH_SAME]
+    return [TOLD, X_BEFORE if x < y else Y_BEFORE]
+
+
+def call_differ(shelf, wholes, rows):
+    first = find_version(shelf, wholes[0])
+    second = find_version(shelf, wholes[1])
+    if first.kind != second.kind or first.order != second.order or first.kind not in (MAP, SET):
+        raise NoKind()
+    return [TOLD] + difference_numbers(first, second)
 
 
 # By a call's number: how many whole numbers it has, how many rows, what does it.
@@ -144,6 +237,18 @@ CALLS = {
     10: (3, 0, call_join),
     11: (1, 2, call_add),
     12: (2, 0, call_take),
+    13: (2, 1, call_insert),
+    14: (2, 1, call_change),
+    15: (3, 0, call_remove),
+    16: (2, 0, call_sorted),
+    17: (1, 0, call_forget),
+    18: (0, 0, call_room),
+    19: (1, 0, call_kind),
+    20: (1, 0, call_form),
+    21: (0, 1, call_of),
+    22: (2, 0, call_same),
+    23: (1, 2, call_before),
+    24: (2, 0, call_differ),
 }
 
 

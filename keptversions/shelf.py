@@ -41,12 +41,22 @@ class Shelf:
         self.following = 0
 
 
+def is_kind_with_order(kind, order):
+    if kind == ROW:
+        return order == 0
+    return MAP <= kind <= QUEUE and 0 <= order <= LAST_ORDER
+
+
 def pair_entry(key, value, order):
     return Entry(key.numbers, value.numbers, place_of(key.numbers, order), 1 + key.weight + value.weight)
 
 
 def key_entry(key, order):
     return Entry(key.numbers, (), place_of(key.numbers, order), 1 + key.weight)
+
+
+def row_entry(value):
+    return Entry((), value.numbers, (), 1 + value.weight)
 
 
 def room_of(entries):
@@ -88,6 +98,12 @@ def keep_version(shelf, version):
     shelf.used += version.room
     shelf.following += 1
     return number
+
+
+# Its number is not given again, as those that follow only rise.
+def forget_version(shelf, number):
+    shelf.used -= find_version(shelf, number).room
+    shelf.versions.pop(number)
 
 
 # Keeps a version with the fresh entries in the place of those from start to before stop.

@@ -29,8 +29,9 @@ FINENESS = 85070591730234615865843651857942052864
 
 
 class Value:
-    def __init__(self, numbers, weight):
+    def __init__(self, numbers, depth, weight):
         self.numbers = numbers
+        self.depth = depth
         self.weight = weight
 
 
@@ -99,17 +100,49 @@ def step_weight(step):
     return 1
 
 
-def checked_value(numbers):
+# A form may be deeper and count more than what is handed over, so its depth and weight are not judged here.
+def read_value(numbers):
+    depth = 0
     weight = 0
     for step in steps_through(numbers):
-        if step.depth > MOST_DEPTH:
-            raise NoRange()
         if step.tag == NUMBER and not is_lowest(step.own[0], step.own[1]):
             raise NoRange()
+        depth = max(depth, step.depth)
         weight += step_weight(step)
-    if weight > MOST_COUNT:
+    return Value(tuple(numbers), depth, weight)
+
+
+def may_be_handed_over(value):
+    return value.depth <= MOST_DEPTH and value.weight <= MOST_COUNT
+
+
+def checked_value(numbers):
+    value = read_value(numbers)
+    if not may_be_handed_over(value):
         raise NoRange()
-    return Value(tuple(numbers), weight)
+    return value
+
+
+def end_of_value(numbers, start):
+    at = start
+    values_left = 1
+    while values_left > 0:
+        values_left -= 1
+        if numbers[at] == LIST:
+            values_left += numbers[at + 1]
+        at = own_span(numbers, at)[1]
+    return at
+
+
+# Gives the numbers of each part of a list.
+def parts_of(numbers):
+    parts = []
+    at = 2
+    while at < len(numbers):
+        end = end_of_value(numbers, at)
+        parts.append(numbers[at:end])
+        at = end
+    return parts
 
 
 def step_codes(step, order):

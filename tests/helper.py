@@ -1,11 +1,10 @@
 """Calls, values and answers as the tests write them."""
 
 from keptversions import desk
-from keptversions.shelf import Entry, ROW, Shelf, Version, keep_version
-from keptversions.value import checked_value
 
 MAP, SET, QUEUE, ROWS = 0, 1, 2, 3
 ORDERS = (0, 1, 2)
+KINDS = [(kind, order) for kind in (MAP, SET, QUEUE) for order in ORDERS] + [(ROWS, 0)]
 
 NOTHING = [1]
 NO_RANGE = [-1]
@@ -92,6 +91,54 @@ def take(v, many):
     return [12, v, many]
 
 
+def insert(v, i, value):
+    return [13, v, i] + row(value)
+
+
+def change(v, i, value):
+    return [14, v, i] + row(value)
+
+
+def remove(v, i, many):
+    return [15, v, i, many]
+
+
+def in_order(v, order):
+    return [16, v, order]
+
+
+def forget(v):
+    return [17, v]
+
+
+def room():
+    return [18]
+
+
+def kind_of(v):
+    return [19, v]
+
+
+def form(v):
+    return [20, v]
+
+
+def of(value):
+    return [21] + row(value)
+
+
+def same(v, u):
+    return [22, v, u]
+
+
+def before(order, x, y):
+    return [23, order] + row(x) + row(y)
+
+
+def differ(v, u):
+    return [24, v, u]
+
+
 def split(told):
     """The answers one by one."""
     each = []
@@ -115,16 +162,6 @@ def run(*calls):
 
 def last(*calls):
     return run(*calls)[-1]
-
-
-def shelf_with_rows(*rows_of_values):
-    """A shelf that keeps a row with each of these rows of values."""
-    shelf = Shelf()
-    for values in rows_of_values:
-        checked = [checked_value(value) for value in values]
-        entries = [Entry((), value.numbers, (), 1 + value.weight) for value in checked]
-        keep_version(shelf, Version(ROW, 0, entries, 1 + sum(entry.room for entry in entries)))
-    return shelf
 
 
 def run_on(shelf, *calls):
@@ -151,6 +188,19 @@ def built(kind, order, entries, first=0):
             calls.append(put(first + turn, *entry))
         elif kind == SET:
             calls.append(key(first + turn, entry))
-        else:
+        elif kind == QUEUE:
             calls.append(add(first + turn, *entry))
+        else:
+            calls.append(insert(first + turn, turn, entry))
     return calls, first + len(entries)
+
+
+def plain_entries(kind, keys):
+    """Entries of that kind with these keys (ranks, values), each pair's value the same."""
+    return [(each, number(1)) for each in keys] if kind in (MAP, QUEUE) else list(keys)
+
+
+def form_value(kind, order, entries):
+    """The form of a version with these entries, pairs in maps and queues, values else."""
+    told = [listed(*entry) if kind in (MAP, QUEUE) else entry for entry in entries]
+    return listed(number(kind), number(order), listed(*told))

@@ -4,8 +4,8 @@ import itertools
 import unittest
 
 from tests.helper import (
-    FALSE, MAP, NO_ABSENT, NO_KIND, NOTHING, ORDERS, QUEUE, ROWS, SET, TRUE, add, asked, at, built, count, drop, get,
-    join, key, last, listed, new, number, part, put, rank, run, run_on, shelf_with_rows, take, text, told_entries)
+    FALSE, KINDS, MAP, NOTHING, NO_ABSENT, NO_KIND, ORDERS, QUEUE, ROWS, SET, TRUE, add, asked, at, built, count, drop,
+    get, join, key, kind_of, last, listed, new, number, part, put, rank, run, take, text, told_entries)
 
 A, B, C, D, E = text("a"), text("b"), text("c"), text("d"), text("e")
 ONE, TWO, THREE, FOUR = number(1), number(2), number(3), number(4)
@@ -25,10 +25,9 @@ class New(unittest.TestCase):
         self.assertEqual(told, [[0, 0], [0, 1], [0, 2], [0, 3], [0, 0], [0, 0], [0, 0], [0, 0], NO_ABSENT])
 
     def test_each_kind_and_order_is_the_one_asked_for(self):
-        kinds = [(kind, order) for kind in (MAP, SET, QUEUE) for order in ORDERS] + [(ROWS, 0)]
-        calls = [new(kind, order) for kind, order in kinds]
-        for v, u in itertools.product(range(len(kinds)), repeat=2):
-            self.assertEqual(last(*calls, join(v, u, 0)), [0, len(kinds)] if v == u else NO_KIND)
+        calls = [new(kind, order) for kind, order in KINDS]
+        for v, u in itertools.product(range(len(KINDS)), repeat=2):
+            self.assertEqual(last(*calls, join(v, u, 0)), [0, len(KINDS)] if v == u else NO_KIND)
 
 
 class Maps(unittest.TestCase):
@@ -196,10 +195,11 @@ class AtAndRange(unittest.TestCase):
                              [[0, 0], NO_ABSENT, [0, 1], NO_ABSENT, NO_ABSENT])
 
     def test_of_rows(self):
-        shelf = shelf_with_rows([B, A, B])
-        told = run_on(shelf, count(0), at(0, 0), at(0, 1), at(0, 2), at(0, 3), part(0, 1, 2), *asked(1, 2))
-        self.assertEqual(told, [[0, 3], [0] + B, [0] + A, [0] + B, NO_ABSENT, [0, 1]] + told_entries([A, B]))
-        self.assertEqual(run_on(shelf, part(0, 3, 0), part(0, 4, 0), part(0, 2, 2)), [[0, 2], NO_ABSENT, NO_ABSENT])
+        calls, v = built(ROWS, 0, [B, A, B])
+        told = run(*calls, count(v), at(v, 0), at(v, 1), at(v, 2), at(v, 3), part(v, 1, 2), *asked(v + 1, 2),
+                   part(v, 3, 0), part(v, 4, 0), part(v, 2, 2), count(v + 2), kind_of(v + 2))
+        self.assertEqual(told[len(calls):], [[0, 3], [0] + B, [0] + A, [0] + B, NO_ABSENT, [0, v + 1]]
+                         + told_entries([A, B]) + [[0, v + 2], NO_ABSENT, NO_ABSENT, [0, 0], [0, 2, ROWS, 0]])
 
 
 class Joins(unittest.TestCase):
@@ -255,14 +255,8 @@ class Joins(unittest.TestCase):
             self.check(QUEUE, order, [], [], 0, [])
 
     def test_rows(self):
-        shelf = shelf_with_rows([B, A, B], [C, A], [])
-        self.assertEqual(run_on(shelf, join(0, 1, 0), *asked(3, 5)), [[0, 3]] + told_entries([B, A, B, C, A]))
-        self.assertEqual(run_on(shelf, join(1, 0, 0), *asked(4, 5)), [[0, 4]] + told_entries([C, A, B, A, B]))
-        self.assertEqual(run_on(shelf, join(0, 0, 0), *asked(5, 6)), [[0, 5]] + told_entries([B, A, B, B, A, B]))
-        self.assertEqual(run_on(shelf, join(2, 1, 0), *asked(6, 2)), [[0, 6]] + told_entries([C, A]))
-        self.assertEqual(run_on(shelf, join(1, 2, 0), *asked(7, 2)), [[0, 7]] + told_entries([C, A]))
-        self.assertEqual(run_on(shelf, *asked(0, 3)), told_entries([B, A, B]))
-        self.assertEqual(run_on(shelf, *asked(1, 2)), told_entries([C, A]))
+        for first, second in itertools.product(([B, A, B], [C, A], []), repeat=2):
+            self.check(ROWS, 0, first, second, 0, first + second)
 
     def test_with_itself(self):
         for order in ORDERS:
@@ -272,6 +266,11 @@ class Joins(unittest.TestCase):
                 for how, rising in ((0, whole), (1, whole), (2, []), (3, [])):
                     told = entries_after(calls + [join(v, v, how)], v + 1, len(rising))
                     self.assertEqual(told, told_entries(rising))
+
+    def test_a_row_with_itself(self):
+        calls, v = built(ROWS, 0, [B, A])
+        self.assertEqual(entries_after(calls + [join(v, v, 0)], v + 1, 4), told_entries([B, A, B, A]))
+        self.assertEqual(entries_after(calls + [join(v, v, 0)], v, 2), told_entries([B, A]))
 
     def test_a_queue_with_itself(self):
         calls, v = built(QUEUE, 0, [(ONE, A), (ONE, B), (TWO, C)])
@@ -286,8 +285,7 @@ class Joins(unittest.TestCase):
                                  [NO_KIND, NO_KIND, [0, 2]])
 
     def test_not_of_one_kind_and_one_order(self):
-        kinds = [(kind, order) for kind in (MAP, SET, QUEUE) for order in ORDERS] + [(ROWS, 0)]
-        for one, other in itertools.permutations(kinds, 2):
+        for one, other in itertools.permutations(KINDS, 2):
             calls = [new(*one), new(*other)] + [join(0, 1, how) for how in range(4)]
             self.assertEqual(run(*calls)[2:], [NO_KIND] * 4)
 

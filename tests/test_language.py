@@ -27,6 +27,15 @@ NOWHERE = set("""register mro elements open input version_info with_traceback ad
 breakpoint builtins compile copyright credits delattr dir eval exec exit gc getattr globals hasattr help id importlib
 license locals methodcaller os quit setattr super vars sys print chr""".split())
 
+KEYWORDS = {"sorted": ("key", "reverse"), "min": ("key", "default"), "max": ("key", "default"), "sum": ("start",),
+            "enumerate": ("start",), "zip": ("strict",)}
+
+WALKING = "list tuple dict sorted sum any all enumerate zip min max".split()
+
+CHANGES = "append clear extend insert pop remove reverse setdefault update".split()
+
+ERRORS = [name for name in OWN_NAMES if name[0].isupper()]
+
 STATEMENTS = (ast.Assign, ast.AugAssign, ast.If, ast.While, ast.For, ast.Return, ast.Break, ast.Continue, ast.Pass,
               ast.Raise, ast.Try, ast.Expr, ast.FunctionDef)
 
@@ -162,8 +171,9 @@ class Form(unittest.TestCase):
             if isinstance(node, ast.ListComp):
                 self.assertEqual(len(node.generators), 1)
                 self.assertLessEqual(len(node.generators[0].ifs), 1)
-            if isinstance(node, ast.Compare):
-                self.assertFalse(any(isinstance(each, (ast.Is, ast.IsNot)) for each in node.ops), (name, node.lineno))
+            if isinstance(node, ast.Compare) and any(isinstance(each, (ast.Is, ast.IsNot)) for each in node.ops):
+                sides = [each.value for each in [node.left] + node.comparators if isinstance(each, ast.Constant)]
+                self.assertTrue(any(isinstance(each, (bool, type(None))) for each in sides), (name, node.lineno))
 
     def test_names(self):
         for name, tree in TREES.items():
@@ -193,6 +203,63 @@ class Form(unittest.TestCase):
                 self.assertIn(node.attr, METHODS, (name, node.lineno))
             elif node.attr not in VALUES:
                 self.assertNotIn(node.attr, taken, (name, node.lineno))
+
+    def test_keywords(self):
+        for name, node in nodes(ast.Call):
+            for each in node.keywords:
+                self.assertIsInstance(node.func, ast.Name, (name, node.lineno))
+                self.assertIn(each.arg, KEYWORDS.get(node.func.id, ()), (name, node.lineno))
+
+    def test_walked_at_once(self):
+        on_the_spot = set()
+        for name, node in nodes((ast.For, ast.comprehension)):
+            on_the_spot.add(id(node.iter))
+        for name, node in nodes(ast.Call):
+            if isinstance(node.func, ast.Name) and node.func.id in WALKING and node.args:
+                on_the_spot.add(id(node.args[0]))
+        for name, node in nodes(ast.Call):
+            called = node.func.id if isinstance(node.func, ast.Name) else node.func.attr
+            if called in ("zip", "enumerate", "reversed", "range", "items", "keys", "values"):
+                self.assertIn(id(node), on_the_spot, (name, node.lineno))
+            self.assertNotIn(called, ("set", "frozenset"), (name, node.lineno))
+
+    def test_own_functions_are_called_not_kept(self):
+        called = {id(node.func) for name, node in nodes(ast.Call)}
+        for name, node in nodes(ast.Name):
+            if node.id in OWN_NAMES and node.id not in ERRORS:
+                self.assertIn(id(node), called, (name, node.lineno))
+
+    def test_what_a_file_keeps_at_its_top(self):
+        for name, tree in TREES.items():
+            defined = [one.name for one in tree.body if isinstance(one, ast.FunctionDef)]
+            for statement in [one for one in tree.body if isinstance(one, ast.Assign)]:
+                inner = [node for node in ast.walk(statement.value) if isinstance(node, (ast.List, ast.Dict))]
+                self.assertLessEqual(len(inner), 1, (name, statement.lineno))
+                for node in ast.walk(statement.value):
+                    if isinstance(node, ast.Name):
+                        self.assertIn(node.id, defined, (name, statement.lineno))
+                if inner:
+                    self.only_indexed(tree, statement.targets[0])
+
+    def only_indexed(self, tree, target):
+        indexed = {id(node.value) for node in ast.walk(tree) if isinstance(node, ast.Subscript)}
+        for node in ast.walk(tree):
+            if isinstance(node, ast.Name) and node.id == target.id:
+                self.assertTrue(node == target or id(node) in indexed, (target.id, node.lineno))
+
+    def test_errors_that_are_taken(self):
+        own = {node.name for name, node in nodes(ast.ClassDef)}
+        for name, node in nodes(ast.ExceptHandler):
+            self.assertIn(node.type.id, own, (name, node.lineno))
+        for name, node in nodes(ast.Raise):
+            self.assertIn(node.exc.func.id, own, (name, node.lineno))
+
+    def test_what_a_loop_walks_is_not_changed_in_it(self):
+        for name, loop in nodes(ast.For):
+            walked = {ast.dump(node) for node in ast.walk(loop.iter) if isinstance(node, (ast.Name, ast.Attribute))}
+            for node in ast.walk(loop):
+                if isinstance(node, ast.Call) and isinstance(node.func, ast.Attribute) and node.func.attr in CHANGES:
+                    self.assertNotIn(ast.dump(node.func.value), walked, (name, node.lineno))
 
     def test_methods(self):
         for name, node in nodes(ast.ClassDef):

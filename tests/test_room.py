@@ -3,8 +3,9 @@
 import unittest
 
 from tests.helper import (
-    FALSE, MAP, NO_FULL, NOTHING, ORDERS, QUEUE, ROWS, SET, TRUE, add, asked, count, drop, get, join, key, listed, new,
-    number, part, put, run, run_on, shelf_with_rows, take, text, told_entries)
+    FALSE, MAP, NO_FULL, NOTHING, ORDERS, QUEUE, ROWS, SET, TRUE, add, asked, built, change, count, drop, form_value,
+    forget, get, in_order, insert, join, key, listed, nested, new, number, of, part, put, remove, room, run, take, text,
+    told_entries)
 
 MOST = 1000000
 BIG = text([0] * 4094)
@@ -106,15 +107,52 @@ class Edge(unittest.TestCase):
         self.check(before, used, join(3, 3, 0), 1)
 
     def test_join_of_rows(self):
-        for left, answers in ((21, [[0, 2], NO_FULL]), (20, [NO_FULL, [0, 2]])):
-            shelf = shelf_with_rows([AB, PAIR, TRUE], [TENTH, AB])
-            shelf.used = MOST - left
-            self.assertEqual(run_on(shelf, join(0, 1, 0), new(SET)), answers)
+        before, v = built(ROWS, 0, [AB, PAIR, TRUE])
+        more, u = built(ROWS, 0, [TENTH, AB], v + 1)
+        used = 1 + 5 + 11 + 13 + 1 + 5 + 9
+        self.check(before + more, used, join(v, u, 0), 13 + 8)
+        self.check(before + more, used, join(v, v, 0), 1 + 12 + 12)
+        self.check(before + more, used, join(0, 0, 0), 1)
 
     def test_range_of_rows(self):
-        shelf = shelf_with_rows([AB, PAIR, TRUE])
-        shelf.used = MOST - (1 + 6 + 2)
-        self.assertEqual(run_on(shelf, part(0, 0, 2), part(0, 1, 2), new(SET)), [NO_FULL, [0, 1], NO_FULL])
+        before, v = built(ROWS, 0, [AB, PAIR, TRUE])
+        used = 1 + 5 + 11 + 13
+        for i, many, room_of in ((0, 3, 13), (0, 2, 11), (1, 2, 9), (1, 1, 7), (2, 1, 3), (3, 0, 1)):
+            self.check(before, used, part(v, i, many), room_of)
+
+    def test_insert(self):
+        self.check([new(ROWS)], 1, insert(0, 0, ABC), 1 + 1 + 4)
+        before, v = built(ROWS, 0, [AB, TRUE])
+        for i in range(3):
+            self.check(before, 1 + 5 + 7, insert(v, i, PAIR), 7 + 6)
+
+    def test_change(self):
+        before, v = built(ROWS, 0, [AB, PAIR, TRUE])
+        used = 1 + 5 + 11 + 13
+        self.check(before, used, change(v, 0, ABC), 13 + 1)
+        self.check(before, used, change(v, 1, TENTH), 13 - 2)
+        self.check(before, used, change(v, 2, TRUE), 13)
+
+    def test_remove(self):
+        before, v = built(ROWS, 0, [AB, PAIR, TRUE])
+        used = 1 + 5 + 11 + 13
+        for i, many, room_of in ((0, 0, 13), (3, 0, 13), (0, 1, 9), (1, 1, 7), (2, 1, 11), (0, 2, 3), (0, 3, 1)):
+            self.check(before, used, remove(v, i, many), room_of)
+
+    def test_sorted(self):
+        before, v = built(ROWS, 0, [PAIR, AB, TRUE, AB])
+        used = 1 + 7 + 11 + 13 + 17
+        for order in ORDERS:
+            self.check(before, used, in_order(v, order), 17)
+            self.check([new(ROWS)], 1, in_order(0, order), 1)
+
+    def test_of(self):
+        self.check([], 0, of(form_value(MAP, 0, [(AB, ABC), (PAIR, TRUE)])), 1 + 8 + 7)
+        self.check([], 0, of(form_value(SET, 1, [PAIR, AB])), 1 + 6 + 4)
+        self.check([], 0, of(form_value(QUEUE, 2, [(AB, ABC), (AB, ABC)])), 1 + 8 + 8)
+        self.check([], 0, of(form_value(ROWS, 0, [PAIR, AB, PAIR])), 1 + 6 + 4 + 6)
+        for kind in (MAP, SET, QUEUE, ROWS):
+            self.check([], 0, of(form_value(kind, 0, [])), 1)
 
     def test_add(self):
         self.check([new(QUEUE)], 1, add(0, AB, ABC), 1 + 1 + 3 + 4)
@@ -147,6 +185,45 @@ class FullShelf(unittest.TestCase):
         there = len(calls)
         told = run(*calls, add(1, TRUE, AB), add(1, TRUE, AB), add(1, TRUE, TRUE), new(SET))
         self.assertEqual(told[there:], [NO_FULL, NO_FULL, [0, there], NO_FULL])
+
+    def test_a_full_shelf_still_refuses_as_told(self):
+        calls = [new(ROWS), insert(0, 0, TRUE)]
+        calls += filling(2, MOST - 4)
+        there = [0, 3, MOST, len(calls), len(calls)]
+        told = run(*calls, room(), of(form_value(SET, 0, [AB, AB])), of(TRUE), of(form_value(ROWS, 0, [nested(41)])),
+                   of(form_value(ROWS, 0, [])), insert(1, 2, TRUE), insert(1, 0, TRUE), in_order(1, 0), remove(1, 0, 1),
+                   room())
+        self.assertEqual(told[len(calls):], [there, [2, 1], NOTHING, [2, 0], NO_FULL, [-2], NO_FULL, NO_FULL, NO_FULL,
+                                             there])
+
+    def test_with_forget_between(self):
+        calls = [new(ROWS), insert(0, 0, AB), insert(1, 0, PAIR)]
+        used = 1 + 5 + 11
+        calls += filling(3, MOST - used)
+        v = len(calls)
+        told = run(*calls, room(), new(SET), forget(0), new(SET), new(SET), forget(1), in_order(2, 0), change(2, 0, AB),
+                   remove(2, 0, 1), room(), forget(2), room(), of(form_value(ROWS, 0, [PAIR, AB])), room(), new(ROWS))
+        self.assertEqual(told[v:], [
+            [0, 3, MOST, v, v], NO_FULL, [0], [0, v], NO_FULL, [0], NO_FULL, NO_FULL, [0, v + 1],
+            [0, 3, MOST, v, v + 2], [0], [0, 3, MOST - 11, v - 1, v + 2], [0, v + 2], [0, 3, MOST, v, v + 3], NO_FULL])
+
+    def test_one_after_another_is_forgotten(self):
+        calls = [new(QUEUE), add(0, TRUE, BIG)] + [join(v, v, 0) for v in range(1, 7)]
+        whole = 1 + 64 * BIG_ENTRY
+        used = 1 + sum(1 + BIG_ENTRY * 2 ** turn for turn in range(7))
+        calls.append(part(7, 0, 64))
+        right = [[0, v] for v in range(9)]
+        for v in range(9, 209):
+            calls += [part(7, 0, 64), forget(v - 1), part(7, 0, 64), room()]
+            right += [NO_FULL, [0], [0, v], [0, 3, used + whole, 9, v + 1]]
+        self.assertEqual(run(*calls), right)
+
+    def test_1024_versions_of_all_ways(self):
+        calls = [new(ROWS), insert(0, 0, TRUE)] + [new(SET)] * 1022
+        for call in (new(MAP), insert(1, 0, TRUE), change(1, 0, TRUE), remove(1, 0, 1), in_order(1, 2), part(1, 0, 1),
+                     join(1, 1, 0), of(form_value(QUEUE, 1, [(TRUE, TRUE)])), key(2, TRUE)):
+            told = run(*calls, call, forget(1023), call, call, forget(1024), call, forget(1023))[1024:]
+            self.assertEqual(told, [NO_FULL, [0], [0, 1024], NO_FULL, [0], [0, 1025], [-2]], call)
 
     def test_1024_versions(self):
         for kind in (MAP, SET, QUEUE, ROWS):

@@ -3,8 +3,8 @@
 import unittest
 
 from tests.helper import (
-    FALSE, TRUE, LAST_NUMBER, MAP, NO_ABSENT, NO_RANGE, QUEUE, SET, add, drop, get, key, last, listed, nested, new,
-    number, put, rank, run, text)
+    FALSE, LAST_NUMBER, MAP, NO_ABSENT, NO_RANGE, ORDERS, QUEUE, ROWS, SET, TRUE, add, at, before, change, drop, form,
+    get, in_order, insert, key, last, listed, nested, new, number, put, rank, run, text)
 
 
 def handing(value):
@@ -12,7 +12,13 @@ def handing(value):
     return [
         (MAP, put(0, value, TRUE)), (MAP, put(0, TRUE, value)), (SET, key(0, value)), (MAP, drop(0, value)),
         (SET, drop(0, value)), (MAP, get(0, value)), (SET, get(0, value)), (MAP, rank(0, value)),
-        (SET, rank(0, value)), (QUEUE, rank(0, value)), (QUEUE, add(0, value, TRUE)), (QUEUE, add(0, TRUE, value))]
+        (SET, rank(0, value)), (QUEUE, rank(0, value)), (QUEUE, add(0, value, TRUE)), (QUEUE, add(0, TRUE, value)),
+        (ROWS, insert(0, 0, value)), (ROWS, change(1, 0, value)), (ROWS, before(0, value, TRUE)),
+        (ROWS, before(1, TRUE, value)), (ROWS, before(2, value, TRUE))]
+
+
+def before_it(kind):
+    return [new(kind), insert(0, 0, FALSE)] if kind == ROWS else [new(kind)]
 
 
 def deep(value, lists):
@@ -24,11 +30,11 @@ def deep(value, lists):
 class Handed(unittest.TestCase):
     def refused(self, value):
         for kind, call in handing(value):
-            self.assertEqual(last(new(kind), call), NO_RANGE, call[:1])
+            self.assertEqual(last(*before_it(kind), call), NO_RANGE, call[:1])
 
     def allowed(self, value):
         for kind, call in handing(value):
-            self.assertIn(last(new(kind), call)[0], (0, 1), call[:1])
+            self.assertIn(last(*before_it(kind), call)[0], (0, 1), call[:1])
 
     def test_every_sort_is_allowed(self):
         for value in (FALSE, TRUE, number(0), number(-3, 7), text(""), text("abc"), text(range(256)), listed(),
@@ -36,6 +42,8 @@ class Handed(unittest.TestCase):
             self.allowed(value)
             self.assertEqual(last(new(SET), key(0, value), get(1, value)), [0] + value)
             self.assertEqual(last(new(MAP), put(0, TRUE, value), get(1, TRUE)), [0] + value)
+            self.assertEqual(last(new(ROWS), insert(0, 0, value), at(1, 0)), [0] + value)
+            self.assertEqual(last(new(ROWS), insert(0, 0, TRUE), change(1, 0, value), at(2, 0)), [0] + value)
 
     def test_numbers_in_lowest_terms(self):
         for value in (number(0), number(1), number(-1), number(1, 2), number(-1, 2), number(6, 35), number(-9, 4),
@@ -111,11 +119,15 @@ class Handed(unittest.TestCase):
         for value in (nested(41), text([0] * 4096), number(2, 4)):
             self.assertEqual(last(key(9, value)), NO_RANGE)
             self.assertEqual(last(key(9, TRUE)), NO_ABSENT)
+            self.assertEqual(run(insert(9, 0, value), change(9, 0, value)), [NO_RANGE] * 2)
+            self.assertEqual(run(insert(9, 0, TRUE), change(9, 0, TRUE)), [NO_ABSENT] * 2)
 
     def test_two_values_each_looked_at(self):
         bad = number(3, 3)
         self.assertEqual(run(new(MAP), put(0, bad, bad), put(0, bad, TRUE), put(0, TRUE, bad), put(0, TRUE, TRUE)),
                          [[0, 0], NO_RANGE, NO_RANGE, NO_RANGE, [0, 1]])
+        self.assertEqual(run(before(0, bad, bad), before(0, bad, TRUE), before(0, TRUE, bad), before(0, TRUE, TRUE)),
+                         [NO_RANGE, NO_RANGE, NO_RANGE, [0, 1]])
 
     def test_long_values(self):
         long_list = listed(*[number(-12345, 7)] * 600)
@@ -126,14 +138,16 @@ class Handed(unittest.TestCase):
 
 class Wholes(unittest.TestCase):
     def test_edge_and_one_above(self):
-        for call in ([6, None], [8, None, 0], [9, None, 0, 0], [10, None, 0, 0], [10, 0, None, 0], [12, None, 0]):
+        for call in ([6, None], [8, None, 0], [9, None, 0, 0], [10, None, 0, 0], [10, 0, None, 0], [12, None, 0],
+                     [15, None, 0, 0], [16, None, 0], [17, None], [19, None], [20, None], [22, None, 0], [22, 0, None],
+                     [24, None, 0], [24, 0, None]):
             for whole, answer in ((LAST_NUMBER, NO_ABSENT), (LAST_NUMBER + 1, NO_RANGE), (2 ** 63 - 1, NO_RANGE)):
                 filled = [whole if each is None else each for each in call]
                 self.assertEqual(last(new(QUEUE), filled), answer, filled)
 
     def test_edge_and_one_above_of_calls_with_values(self):
         for call in (put(None, TRUE, TRUE), key(None, TRUE), drop(None, TRUE), get(None, TRUE), rank(None, TRUE),
-                     add(None, TRUE, TRUE)):
+                     add(None, TRUE, TRUE), insert(None, 0, TRUE), change(None, 0, TRUE)):
             for whole, answer in ((LAST_NUMBER, NO_ABSENT), (LAST_NUMBER + 1, NO_RANGE)):
                 filled = [whole if each is None else each for each in call]
                 self.assertEqual(last(new(MAP), filled), answer, filled)
@@ -145,9 +159,24 @@ class Wholes(unittest.TestCase):
                 self.assertEqual(last(new(QUEUE), filled), answer, filled)
         self.assertEqual(last(new(QUEUE), [9, 0, LAST_NUMBER, LAST_NUMBER]), NO_ABSENT)
 
+    def test_places_and_lengths_of_rows(self):
+        for call in (insert(0, None, TRUE), change(0, None, TRUE), [15, 0, None, 0], [15, 0, 0, None]):
+            for whole, answer in ((LAST_NUMBER, NO_ABSENT), (LAST_NUMBER + 1, NO_RANGE)):
+                filled = [whole if each is None else each for each in call]
+                self.assertEqual(last(new(ROWS), filled), answer, filled)
+        self.assertEqual(last(new(ROWS), [15, 0, LAST_NUMBER, LAST_NUMBER]), NO_ABSENT)
+
+    def test_orders_of_sorted_and_before(self):
+        for order in (0, 1, 2, 3, 4, LAST_NUMBER, LAST_NUMBER + 1):
+            fits = order in ORDERS
+            self.assertEqual(run(new(ROWS), in_order(0, order))[1], [0, 1] if fits else NO_RANGE)
+            self.assertEqual(run(before(order, TRUE, TRUE))[0], [0, 1] if fits else NO_RANGE)
+
     def test_below_0(self):
         for call in ([1, -1, 0], [1, 0, -1], [6, -1], [8, -1, 0], [8, 0, -1], [9, 0, -1, 0], [9, 0, 0, -1],
-                     [9, 0, 1, -1], [10, -1, 0, 0], [10, 0, -1, 0], [10, 0, 0, -1], [12, 0, -1], key(-1, TRUE)):
+                     [9, 0, 1, -1], [10, -1, 0, 0], [10, 0, -1, 0], [10, 0, 0, -1], [12, 0, -1], key(-1, TRUE),
+                     insert(0, -1, TRUE), change(0, -1, TRUE), [15, 0, -1, 1], [15, 0, 1, -1], [16, 0, -1], [17, -1],
+                     [19, -1], [20, -1], [22, 0, -1], [22, -1, 0], before(-1, TRUE, TRUE), [24, 0, -1], [24, -1, 0]):
             self.assertEqual(last(new(QUEUE), call), NO_RANGE, call)
 
     def test_kinds_and_orders(self):
@@ -158,6 +187,11 @@ class Wholes(unittest.TestCase):
         for whole in (LAST_NUMBER, LAST_NUMBER + 1):
             self.assertEqual(last(new(whole, 0)), NO_RANGE)
             self.assertEqual(last(new(0, whole)), NO_RANGE)
+
+    def test_a_refused_one_is_not_kept(self):
+        told = run(new(ROWS), insert(0, 0, TRUE), insert(1, 0, nested(41)), change(1, 0, text([0] * 4096)),
+                   in_order(1, 3), form(1), new(ROWS))
+        self.assertEqual(told[2:], [NO_RANGE] * 3 + [[0, 3, 3, 1, 3, 1, 1, 0, 1, 3, 1, 0, 1], [0, 2]])
 
     def test_how(self):
         for how in range(7):

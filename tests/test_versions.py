@@ -4,8 +4,9 @@ import unittest
 
 from keptversions import desk
 from tests.helper import (
-    FALSE, MAP, ORDERS, QUEUE, SET, TRUE, add, asked, at, built, count, drop, get, join, key, listed, new, number, part,
-    put, rank, run, take, text, told_entries)
+    FALSE, MAP, ORDERS, QUEUE, ROWS, SET, TRUE, add, asked, at, before, built, change, count, differ, drop, forget,
+    form, form_value, get, in_order, insert, join, key, kind_of, listed, new, number, of, part, put, rank, remove, room,
+    run, same, take, text, told_entries)
 
 A, B, C, D = text("a"), text("b"), text("c"), text("d")
 ONE, TWO = number(1), number(2)
@@ -26,9 +27,9 @@ class OldVersionsStay(unittest.TestCase):
         """After each change, and after all, version v has the entries it had."""
         many = len(entries)
         calls, told = list(made), run(*made)
-        for change in changes:
-            calls += [change] + asked(v, many)
-            told += [None] + told_entries(entries)
+        for each in changes:
+            calls += [each, form(v)] + asked(v, many)
+            told += [None, run(*made, form(v))[-1]] + told_entries(entries)
         answers = run(*calls)
         for call, answer, right in zip(calls, answers, told):
             self.assertEqual(answer, answer if right is None else right, call)
@@ -60,6 +61,23 @@ class OldVersionsStay(unittest.TestCase):
                 join(v, v, 0), join(v, v + 1, 0), join(v + 1, v, 0), add(v + 4, ONE, D), take(v + 7, 3),
                 add(v + 7, TWO, D), take(v + 8, 6)])
 
+    def test_rows(self):
+        made, v = built(ROWS, 0, [B, A, C, A])
+        self.check(made, v, [B, A, C, A], [
+            insert(v, 0, D), insert(v, 2, D), insert(v, 4, D), change(v, 0, D), change(v, 3, D), change(v, 1, A),
+            remove(v, 0, 0), remove(v, 0, 1), remove(v, 1, 2), remove(v, 0, 4), in_order(v, 0), in_order(v, 1),
+            in_order(v, 2), part(v, 0, 4), part(v, 1, 2), join(v, v, 0), join(v, v + 1, 0), join(v + 1, v, 0),
+            insert(v + 7, 1, D), change(v + 7, 0, D), remove(v + 14, 0, 4), in_order(v + 14, 0), insert(v + 16, 8, D),
+            in_order(v + 16, 1), of(form_value(ROWS, 0, [B, A, C, A])), change(v + 25, 0, D), forget(v + 25),
+            forget(v + 1), forget(0)])
+
+    def test_forgotten_and_made_from_forms(self):
+        made, v = built(MAP, 1, [(A, ONE), (B, ONE)])
+        rising = [listed(B, ONE), listed(A, ONE)]
+        self.check(made, v, rising, [
+            of(form_value(MAP, 1, [(B, ONE), (A, ONE)])), put(v + 1, A, TWO), drop(v + 1, A), forget(v + 1),
+            forget(v - 1), forget(0), put(v, A, TWO), forget(v + 4), join(v, v + 2, 0), forget(v + 2)])
+
     def test_two_ways_on_from_one_version(self):
         calls, v = built(SET, 0, [A])
         calls += [key(v, B), key(v, C), drop(v + 1, A), key(v + 2, D)]
@@ -82,7 +100,10 @@ class OldVersionsStay(unittest.TestCase):
 class Interface(unittest.TestCase):
     calls = [new(MAP, 2), put(0, listed(A, number(1, 2)), TRUE), drop(1, A), get(1, listed(A, number(1, 2))), count(1),
              rank(1, A), at(1, 0), part(1, 0, 1), join(1, 3, 0), new(SET), key(4, B), new(QUEUE, 1), add(6, ONE, A),
-             take(7, 1), take(7, 2), put(1, number(2, 2), A), new(9), count(99), key(0, A)]
+             take(7, 1), take(7, 2), put(1, number(2, 2), A), new(9), count(99), key(0, A), new(ROWS), insert(9, 0, B),
+             insert(10, 0, listed(A, TRUE)), change(11, 1, ONE), remove(12, 0, 1), in_order(12, 1), room(), forget(10),
+             kind_of(12), form(12), form(10), of(form_value(ROWS, 0, [A, listed(B)])), of(TRUE), same(12, 14),
+             of(form_value(SET, 0, [B, A])), before(2, listed(A), listed(B)), differ(0, 1), differ(1, 3), room()]
 
     def flat(self):
         return [each for call in self.calls for each in call]
@@ -104,6 +125,22 @@ class Interface(unittest.TestCase):
         self.assertEqual(flat, self.flat())
         self.assertEqual(desk.answers(Guarded(flat)), desk.answers(flat))
 
+    def test_all_calls_are_among_them(self):
+        self.assertEqual({call[0] for call in self.calls}, set(range(1, 25)))
+
+    def test_each_call_alone_leaves_the_list_as_it_was(self):
+        for call in self.calls:
+            told = desk.answers(Guarded(call))
+            self.assertEqual(told, desk.answers(list(call)))
+
+    def test_the_answers_of_the_later_calls(self):
+        self.assertEqual(desk.answers([18, 1, 3, 0, 13, 0, 0, 2, 0, 1, 20, 1, 19, 1, 22, 0, 1, 17, 0, 18, 17, 0]),
+                         [5, 0, 3, 0, 0, 0, 2, 0, 0, 2, 0, 1, 13, 0, 3, 3, 1, 3, 1, 1, 0, 1, 3, 1, 0, 1,
+                          4, 0, 2, 3, 0, 2, 0, 0, 1, 0, 5, 0, 3, 3, 1, 2, 1, -2])
+        self.assertEqual(desk.answers([21, 2, 0, 1]), [1, 1])
+        self.assertEqual(desk.answers([21, 14, 3, 3, 1, 1, 1, 1, 0, 1, 3, 2, 0, 1, 0, 1]), [2, 2, 1])
+        self.assertEqual(desk.answers([23, 0, 2, 0, 1, 3, 1, 0, 1, 24, 0, 0]), [2, 0, 0, 1, -2])
+
     def test_nothing_is_kept_from_one_time_to_the_next(self):
         flat = self.flat()
         first = desk.answers(flat)
@@ -113,6 +150,7 @@ class Interface(unittest.TestCase):
         self.assertEqual(desk.answers(other)[-2:], [0, 1023])
         self.assertEqual(desk.answers(other)[-2:], [0, 1023])
         self.assertEqual(desk.answers(flat), first)
+        self.assertEqual(desk.answers([18]), [5, 0, 3, 0, 0, 0])
 
     def test_an_answer_can_be_changed(self):
         flat = self.flat()
